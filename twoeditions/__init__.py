@@ -1,0 +1,1 @@
+"""Places of one edition found in another."""

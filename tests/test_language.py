@@ -19,6 +19,12 @@ OWN_NAMES = set("""
 BARRED_WORDS = """
     type typing typing_extensions enum Enum IntEnum StrEnum Flag IntFlag Generic Protocol ABC ABCMeta namedtuple
     NamedTuple TypedDict TYPE_CHECKING abstractmethod""".split()
+METHODS = """
+    append clear copy count endswith extend find get index insert isalnum isalpha isdigit islower isspace isupper items
+    join keys ljust lower lstrip partition pop remove replace reverse rfind rjust rpartition rsplit rstrip setdefault
+    split splitlines startswith strip update upper values zfill bit_length""".split()
+WALKED = ("zip", "enumerate", "reversed", "range")
+WALKERS = ("list", "tuple", "dict", "sorted", "sum", "any", "all", "enumerate", "zip", "min", "max")
 BARRED_PARTS = ("dataclass", "overload", "contextmanager")
 UNDERSCORED = ("__init__", "__eq__", "__repr__", "__str__", "__len__")
 
@@ -29,6 +35,23 @@ def sources():
 
 def nodes(path):
     return list(ast.walk(ast.parse(path.read_text())))
+
+
+def all_nodes():
+    return [node for path in sources() for node in nodes(path)]
+
+
+def own_methods():
+    return {part.name for node in all_nodes() if isinstance(node, ast.ClassDef)
+            for part in node.body if isinstance(part, ast.FunctionDef)}
+
+
+def drawn_from(path):
+    return [FOLDER / (node.module.split(".")[1] + ".py") for node in nodes(path) if isinstance(node, ast.ImportFrom)]
+
+
+def called_name(node):
+    return node.func.id if isinstance(node, ast.Call) and isinstance(node.func, ast.Name) else None
 
 
 class LanguageTest(unittest.TestCase):
@@ -70,6 +93,7 @@ class LanguageTest(unittest.TestCase):
                     self.assertIsInstance(node.value, ast.Call, path)
                 if isinstance(node, ast.Assign):
                     self.assertEqual(len(node.targets), 1, path)
+                    self.assertIsInstance(node.targets[0], (ast.Name, ast.Attribute, ast.Subscript), path)
                 if isinstance(node, (ast.Div, ast.MatMult)):
                     self.fail(path)
                 if isinstance(node, ast.Constant):
@@ -82,6 +106,57 @@ class LanguageTest(unittest.TestCase):
                     self.assertEqual(node.level, 0, path)
                     self.assertRegex(node.module, r"^twoeditions\.[a-z]", path)
                     self.assertNotIn("*", [name.name for name in node.names], path)
+
+    def test_no_two_files_draw_from_one_another(self):
+        for path in sources():
+            reached = drawn_from(path)
+            for other in reached:
+                self.assertNotEqual(other, path)
+                reached += [further for further in drawn_from(other) if further not in reached]
+
+    def test_imports_come_from_where_the_name_is_defined(self):
+        for path in sources():
+            for node in nodes(path):
+                if isinstance(node, ast.ImportFrom):
+                    there = ast.parse((FOLDER / (node.module.split(".")[1] + ".py")).read_text()).body
+                    defined = [part.name for part in there if isinstance(part, (ast.FunctionDef, ast.ClassDef))]
+                    for name in node.names:
+                        self.assertIn(name.name, defined, path)
+
+    def test_no_local_is_called_like_a_class_or_an_import(self):
+        for path in sources():
+            found = nodes(path)
+            taken = [node.name for node in found if isinstance(node, (ast.ClassDef, ast.alias))]
+            for node in found:
+                if isinstance(node, ast.arg):
+                    self.assertNotIn(node.arg, taken, path)
+                if isinstance(node, ast.Name) and isinstance(node.ctx, ast.Store):
+                    self.assertNotIn(node.id, taken, path)
+
+    def test_is_stands_beside_none_true_and_false(self):
+        for node in all_nodes():
+            if isinstance(node, ast.Compare) and isinstance(node.ops[0], (ast.Is, ast.IsNot)):
+                self.assertIn(getattr(node.comparators[0], "value", 0), (None, True, False))
+                self.assertEqual(len(node.ops), 1)
+
+    def test_methods(self):
+        own = own_methods()
+        for node in all_nodes():
+            if isinstance(node, ast.Call) and isinstance(node.func, ast.Attribute):
+                self.assertIn(node.func.attr, own | set(METHODS))
+
+    def test_no_name_is_a_method_and_a_value(self):
+        stored = {node.attr for node in all_nodes() if isinstance(node, ast.Attribute)
+                  and isinstance(node.ctx, ast.Store)}
+        self.assertEqual(stored & own_methods(), set())
+
+    def test_walked_on_the_spot(self):
+        found = all_nodes()
+        allowed = [id(node.iter) for node in found if isinstance(node, (ast.For, ast.comprehension))]
+        allowed += [id(node.args[0]) for node in found if called_name(node) in WALKERS]
+        for node in found:
+            if called_name(node) in WALKED:
+                self.assertIn(id(node), allowed, node.lineno)
 
     def test_names(self):
         for path in sources():

@@ -25,6 +25,26 @@ def costs(other, out, into):
     return [4, other, out, into]
 
 
+def where(k, number):
+    return [5, k, number]
+
+
+def find(k, page, line, m):
+    return [6, k, page, line, m]
+
+
+def word(k, number, m):
+    return [7, k, number, m]
+
+
+def table(k, m):
+    return [8, k, m]
+
+
+def agree(k, m):
+    return [9, k, m]
+
+
 def joined(calls):
     return [number for call in calls for number in call]
 
@@ -44,6 +64,11 @@ def taken_apart(numbers):
 def answered(*calls):
     """The answers of the calls, a list of numbers each."""
     return taken_apart(answers(joined(calls)))
+
+
+def last(*calls):
+    """The answer of the last call alone."""
+    return answered(*calls)[-1]
 
 
 def firsts(*calls):

@@ -7,6 +7,11 @@ EDITION = 1
 LINES = 2
 PAGES = 3
 COSTS = 4
+WHERE = 5
+FIND = 6
+WORD = 7
+TABLE = 8
+AGREE = 9
 
 
 class UnknownCall(ValueError):
@@ -49,6 +54,39 @@ def answer_costs(reader, shelf):
     return shelf.set_costs(other, out, into)
 
 
+def answer_place(call, reader, shelf):
+    k = reader.take_number()
+    word = reader.take_number()
+    if call == WHERE:
+        return shelf.where(k, word)
+    return shelf.find_word(k, word, reader.take_number())
+
+
+def answer_line(reader, shelf):
+    k = reader.take_number()
+    page = reader.take_number()
+    line = reader.take_number()
+    return shelf.find_line(k, page, line, reader.take_number())
+
+
+def answer_whole(call, reader, shelf):
+    k = reader.take_number()
+    m = reader.take_number()
+    if call == TABLE:
+        return shelf.table(k, m)
+    return shelf.agree(k, m)
+
+
+def answer_asked(call, reader, shelf):
+    if call == WHERE or call == WORD:
+        return answer_place(call, reader, shelf)
+    if call == FIND:
+        return answer_line(reader, shelf)
+    if call == TABLE or call == AGREE:
+        return answer_whole(call, reader, shelf)
+    raise UnknownCall(f"no call has the number {call}")
+
+
 def answer_call(reader, shelf):
     call = reader.take_number()
     if call == BEGINS:
@@ -59,7 +97,7 @@ def answer_call(reader, shelf):
         return answer_counts(call, reader, shelf)
     if call == COSTS:
         return answer_costs(reader, shelf)
-    raise UnknownCall(f"no call has the number {call}")
+    return answer_asked(call, reader, shelf)
 
 
 def answers(calls):

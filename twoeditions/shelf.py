@@ -1,5 +1,8 @@
 """The editions that the calls are about, and what the steps of a way cost."""
 
+from twoeditions.layout import Edition
+from twoeditions.partners import count_same, find_partners, gap_behind, those_there
+
 MOST_EDITIONS = 4
 MOST_WORDS = 80
 LARGEST_WORD = 99999
@@ -9,6 +12,7 @@ FIRST_COSTS = (2, 2, 2)
 WRONG_FORM = -1
 NO_SUCH_EDITION = -2
 NO_ROOM = -5
+NO_SUCH_PLACE = -6
 
 
 def are_words(words):
@@ -20,13 +24,6 @@ def are_words(words):
 # No edition is without words, so an empty row of sizes never makes a whole.
 def make_whole(sizes, whole):
     return 0 not in sizes and sum(sizes) == whole
-
-
-class Edition:
-    def __init__(self, words):
-        self.words = words
-        self.line_sizes = [len(words)]
-        self.page_sizes = [1]
 
 
 # Each call is answered with a list, since a refusal is one number alone
@@ -43,6 +40,12 @@ class Shelf:
 
     def has_edition(self, k):
         return k < len(self.editions)
+
+    def has_both(self, k, m):
+        return self.has_edition(k) and self.has_edition(m)
+
+    def partners_of(self, k, m):
+        return find_partners(self.editions, k, m, self.costs)
 
     # Wrong words are told ahead of a lack of room, also where both hold.
     def add_edition(self, words):
@@ -79,3 +82,58 @@ class Shelf:
             return [WRONG_FORM]
         self.costs = (other, out, into)
         return [0]
+
+    def where(self, k, word):
+        if not self.has_edition(k):
+            return [NO_SUCH_EDITION]
+        edition = self.editions[k]
+        if not edition.has_word(word):
+            return [NO_SUCH_PLACE]
+        return [0] + edition.place_of(word)
+
+    def find_line(self, k, page, line, m):
+        if not self.has_both(k, m):
+            return [NO_SUCH_EDITION]
+        edition = self.editions[k]
+        if not edition.has_line(page, line):
+            return [NO_SUCH_PLACE]
+        return self.find_words(k, edition.line_start(page, line), edition.line_start(page, line + 1), m)
+
+    def find_word(self, k, word, m):
+        if not self.has_both(k, m):
+            return [NO_SUCH_EDITION]
+        if not self.editions[k].has_word(word):
+            return [NO_SUCH_PLACE]
+        return self.find_words(k, word, word + 1, m)
+
+    def find_words(self, k, start, end, m):
+        partners = self.partners_of(k, m)
+        target = self.editions[m]
+        there = those_there(partners[start:end])
+        if there:
+            same = count_same(self.editions[k].words[start:end], partners[start:end], target.words)
+            return [0, len(there), same] + target.place_of(there[0]) + target.place_of(there[-1])
+        gap = gap_behind(partners[:start])
+        return [1] + target.place_of(gap) if target.has_word(gap) else [1]
+
+    def table(self, k, m):
+        if not self.has_both(k, m):
+            return [NO_SUCH_EDITION]
+        edition = self.editions[k]
+        target = self.editions[m]
+        partners = self.partners_of(k, m)
+        answer = [len(edition.page_sizes)]
+        for page in range(len(edition.page_sizes)):
+            there = those_there(partners[edition.page_start(page):edition.page_start(page + 1)])
+            if there:
+                answer.extend([target.page_of(there[0]) + 1, target.page_of(there[-1]) + 1])
+            else:
+                answer.extend([0, 0])
+        return answer
+
+    def agree(self, k, m):
+        if not self.has_both(k, m):
+            return [NO_SUCH_EDITION]
+        partners = self.partners_of(k, m)
+        same = count_same(self.editions[k].words, partners, self.editions[m].words)
+        return [len(those_there(partners)), same]
